@@ -1,0 +1,1 @@
+"""Watering: plans for a round with a can from the tap to the pots of a yard."""
