@@ -19,6 +19,22 @@ def check(*plan):
     return [3, len(plan), *plan, 0]
 
 
+def best():
+    return [4, 0, 0]
+
+
+def split(*order):
+    return [5, len(order), *order, 0]
+
+
+def fewest():
+    return [6, 0, 0]
+
+
+def plain():
+    return [7, 0, 0]
+
+
 def line(*calls):
     return [number for call in calls for number in call]
 

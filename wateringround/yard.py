@@ -4,6 +4,10 @@ BEGINS = 0
 TAP = 1
 POT = 2
 CHECK = 3
+BEST = 4
+SPLIT = 5
+FEWEST = 6
+PLAIN = 7
 
 MOST_IN_CAN = 1000
 FARTHEST = 1000
@@ -15,6 +19,7 @@ NOT_A_PLAN = -4
 TOO_MANY_POTS = -5
 CANNOT_BE = -6
 
+NOTHING = 0
 TOO_LITTLE = 1
 TOO_LATE = 2
 
@@ -28,6 +33,42 @@ class Pot:
         self.spot = spot
         self.water = water
         self.wilts = wilts
+
+
+class Walker:
+    def __init__(self, tap, can):
+        self.tap = tap
+        self.can = can
+        self.here = tap
+        self.gone = 0
+        self.left = can
+
+    def go_to(self, spot):
+        self.gone = self.gone + steps(self.here, spot)
+        self.here = spot
+
+    def fill_can(self):
+        self.go_to(self.tap)
+        self.left = self.can
+
+    def what_hinders(self, pot):
+        # A pot that is wrong both ways is told as too little, so this is asked first.
+        if pot.water > self.left:
+            return TOO_LITTLE
+        if self.gone + steps(self.here, pot.spot) > pot.wilts:
+            return TOO_LATE
+        return NOTHING
+
+    def give_water(self, pot):
+        self.go_to(pot.spot)
+        self.left = self.left - pot.water
+
+
+class WalkedPlan:
+    def __init__(self, plan, way, trips):
+        self.plan = plan
+        self.way = way
+        self.trips = trips
 
 
 class Yard:
@@ -65,26 +106,71 @@ class Yard:
             return [NOT_A_PLAN]
         return self.walk(plan)
 
+    def best(self):
+        return shortest(self.plans_that_can_be(all_orders(len(self.pots))))
+
+    def split_order(self, order):
+        if any([number == 0 or number > len(self.pots) for number in order]):
+            return [WRONG_NUMBER]
+        if not is_each_pot_once(order, len(self.pots)):
+            return [NOT_A_PLAN]
+        return shortest(self.plans_that_can_be([order]))
+
+    def fewest(self):
+        walked = self.plans_that_can_be(all_orders(len(self.pots)))
+        if len(walked) == 0:
+            return [CANNOT_BE]
+        trips = min([one.trips for one in walked])
+        return [trips] + shortest([one for one in walked if one.trips == trips])
+
+    def plain(self):
+        walker = Walker(self.tap, self.can)
+        plan = []
+        dry = list(range(1, len(self.pots) + 1))
+        while len(dry) > 0:
+            within_reach = [number for number in dry if walker.what_hinders(self.pot_of(number)) == NOTHING]
+            if len(within_reach) > 0:
+                number = self.nearest(walker.here, within_reach)
+                walker.give_water(self.pot_of(number))
+                dry.remove(number)
+                plan.append(number)
+            elif is_can_just_filled(plan):
+                return [CANNOT_BE]
+            else:
+                walker.fill_can()
+                plan.append(0)
+        walker.go_to(self.tap)
+        return [walker.gone] + plan
+
+    def pot_of(self, number):
+        return self.pots[number - 1]
+
+    def nearest(self, here, numbers):
+        # The number stands behind the steps, so that of several as near the lowest is the least.
+        return min([(steps(here, self.pot_of(number).spot), number) for number in numbers])[1]
+
+    def plans_that_can_be(self, orders):
+        found = []
+        for order in orders:
+            for plan in plans_in_order(order):
+                told = self.walk(plan)
+                if told[0] != CANNOT_BE:
+                    found.append(WalkedPlan(plan, told[0], told[1]))
+        return found
+
     def walk(self, plan):
-        here = self.tap
-        gone = 0
-        left = self.can
+        walker = Walker(self.tap, self.can)
         for place, number in enumerate(plan):
             if number == 0:
-                gone = gone + steps(here, self.tap)
-                here = self.tap
-                left = self.can
+                walker.fill_can()
                 continue
-            pot = self.pots[number - 1]
-            gone = gone + steps(here, pot.spot)
-            # A step that is wrong both ways is told as too little, so this is asked first.
-            if pot.water > left:
-                return [CANNOT_BE, place, TOO_LITTLE]
-            if gone > pot.wilts:
-                return [CANNOT_BE, place, TOO_LATE]
-            here = pot.spot
-            left = left - pot.water
-        return [gone + steps(here, self.tap), count_trips(plan)]
+            pot = self.pot_of(number)
+            hindrance = walker.what_hinders(pot)
+            if hindrance != NOTHING:
+                return [CANNOT_BE, place, hindrance]
+            walker.give_water(pot)
+        walker.go_to(self.tap)
+        return [walker.gone, count_trips(plan)]
 
 
 def is_outside(x, y):
@@ -96,8 +182,12 @@ def steps(here, there):
 
 
 def is_plan(numbers, how_many_pots):
-    told = sorted([number for number in numbers if number != 0])
-    return told == list(range(1, how_many_pots + 1)) and zeros_stand_between(numbers)
+    order = [number for number in numbers if number != 0]
+    return is_each_pot_once(order, how_many_pots) and zeros_stand_between(numbers)
+
+
+def is_each_pot_once(order, how_many_pots):
+    return sorted(order) == list(range(1, how_many_pots + 1))
 
 
 def zeros_stand_between(numbers):
@@ -118,6 +208,42 @@ def count_trips(plan):
     return plan.count(0) + 1
 
 
+def is_can_just_filled(plan):
+    # A pot may stand at the tap's own spot: being there doesn't mean that the can is full.
+    return len(plan) == 0 or plan[-1] == 0
+
+
+def all_orders(how_many_pots):
+    orders = [[]]
+    for number in range(1, how_many_pots + 1):
+        longer = []
+        for order in orders:
+            for place in range(len(order) + 1):
+                longer.append(order[:place] + [number] + order[place:])
+        orders = longer
+    return orders
+
+
+def plans_in_order(order):
+    plans = [order[:1]]
+    for number in order[1:]:
+        longer = []
+        for plan in plans:
+            longer.append(plan + [number])
+            longer.append(plan + [0, number])
+        plans = longer
+    return plans
+
+
+def shortest(walked):
+    if len(walked) == 0:
+        return [CANNOT_BE]
+    way = min([one.way for one in walked])
+    plans = [one.plan for one in walked if one.way == way]
+    # Of two lists Python holds for less the one that is the earlier plan.
+    return [way, len(plans)] + min(plans)
+
+
 def answer(yard, call, numbers):
     if call == BEGINS:
         return yard.begins(numbers[0])
@@ -127,6 +253,14 @@ def answer(yard, call, numbers):
         return yard.add_pot(numbers[0], numbers[1], numbers[2], numbers[3])
     if call == CHECK:
         return yard.check(numbers)
+    if call == BEST:
+        return yard.best()
+    if call == SPLIT:
+        return yard.split_order(numbers)
+    if call == FEWEST:
+        return yard.fewest()
+    if call == PLAIN:
+        return yard.plain()
     raise UnknownCall(f"call {call}")
 
 
